@@ -1,0 +1,1 @@
+"""Spotlay: works laid to places."""

@@ -1,0 +1,122 @@
+"""The rules for the package's files that a look at their words and their tree can show."""
+
+import ast
+import builtins
+import pathlib
+import re
+import unittest
+
+PACKAGE = pathlib.Path(__file__).resolve().parent.parent / "spotlay"
+FILES = sorted(PACKAGE.glob("*.py"))
+
+BARRED_WORDS = (
+    "type typing typing_extensions enum Enum IntEnum StrEnum Flag IntFlag Generic Protocol ABC ABCMeta "
+    "namedtuple NamedTuple TypedDict TYPE_CHECKING abstractmethod"
+).split()
+BUILTINS = (
+    "len range enumerate zip min max sum abs sorted reversed int str bool bytes list tuple dict set frozenset "
+    "isinstance ord repr any all divmod Exception ValueError TypeError KeyError IndexError LookupError "
+    "ZeroDivisionError ArithmeticError OverflowError RuntimeError NotImplementedError AttributeError "
+    "StopIteration NotImplemented"
+).split()
+FUNCTIONS = {
+    "jobs.py": [
+        "is_job(thing)", "is_laying(job, thing)", "is_part(job, thing)", "cost(job, laying)", "fixed(job, part)",
+    ],
+    "exchanges.py": [
+        "exchanged(laying, one, other)", "saved(job, laying, one, other)", "is_still(job, laying)",
+        "settled(job, laying)", "is_settling(job, laying, steps)",
+    ],
+}
+
+
+def trees():
+    for path in FILES:
+        yield path.name, ast.parse(path.read_text(encoding="utf-8"))
+
+
+def head(node):
+    return f"{node.name}({', '.join(one.arg for one in node.args.args)})"
+
+
+def bound_names(tree):
+    """All names that are given a meaning, but for the double-underscore methods."""
+    for node in ast.walk(tree):
+        if isinstance(node, (ast.FunctionDef, ast.ClassDef)):
+            if not re.fullmatch(r"__[a-z]+__", node.name):
+                yield node.name
+        elif isinstance(node, ast.arg):
+            yield node.arg
+        elif isinstance(node, ast.Name) and not isinstance(node.ctx, ast.Load):
+            yield node.id
+        elif isinstance(node, ast.alias):
+            yield node.asname or node.name
+
+
+class Form(unittest.TestCase):
+    def test_the_folder_holds_plainly_named_files_only(self):
+        for path in PACKAGE.iterdir():
+            if path.name != "__pycache__":
+                self.assertTrue(re.fullmatch(r"(__init__|[a-z][a-z0-9_]*)\.py", path.name), path.name)
+
+    def test_the_functions_of_the_interface_stand_in_their_files(self):
+        found = dict(trees())
+        for name, wanted in FUNCTIONS.items():
+            heads = [head(node) for node in found[name].body if isinstance(node, ast.FunctionDef)]
+            for one in wanted:
+                self.assertIn(one, heads)
+
+    def test_signs_and_sizes(self):
+        for path in FILES:
+            text = path.read_text(encoding="utf-8")
+            self.assertTrue(re.fullmatch(r"[ -~\n]*", text), path.name)
+            rows = text.split("\n")
+            self.assertLessEqual(len(rows), 400, path.name)
+            self.assertLessEqual(max(len(row) for row in rows), 120, path.name)
+
+    def test_barred_words(self):
+        for path in FILES:
+            words = re.findall(r"\w+", path.read_text(encoding="utf-8"))
+            self.assertEqual([word for word in words if word in BARRED_WORDS], [], path.name)
+
+    def test_functions_are_short(self):
+        for name, tree in trees():
+            for node in ast.walk(tree):
+                if isinstance(node, ast.FunctionDef):
+                    self.assertLessEqual(node.end_lineno - node.lineno + 1, 40, f"{name} {node.name}")
+
+    def test_only_the_package_is_imported_by_full_names(self):
+        for name, tree in trees():
+            for node in ast.walk(tree):
+                self.assertNotIsInstance(node, ast.Import, name)
+                if isinstance(node, ast.ImportFrom):
+                    self.assertIn(node, tree.body)
+                    self.assertEqual(node.level, 0)
+                    self.assertTrue(node.module.startswith("spotlay."), name)
+                    self.assertNotEqual(node.names[0].name, "*")
+
+    def test_no_name_hides_a_builtin_or_begins_with_an_underscore(self):
+        for name, tree in trees():
+            for bound in bound_names(tree):
+                self.assertFalse(hasattr(builtins, bound), f"{name} {bound}")
+                self.assertFalse(bound.startswith("_"), f"{name} {bound}")
+
+    def test_only_the_allowed_builtins_are_used(self):
+        for name, tree in trees():
+            for node in ast.walk(tree):
+                if isinstance(node, ast.Name) and hasattr(builtins, node.id):
+                    self.assertIn(node.id, BUILTINS, name)
+
+    def test_no_barred_statements_and_values(self):
+        barred = (ast.Global, ast.AsyncFunctionDef, ast.Await, ast.Div)
+        for name, tree in trees():
+            for node in ast.walk(tree):
+                self.assertNotIsInstance(node, barred, name)
+                if isinstance(node, ast.Constant):
+                    self.assertNotIsInstance(node.value, (float, complex), name)
+                if isinstance(node, ast.Constant) and isinstance(node.value, str):
+                    self.assertNotIn(chr(37), node.value, name)
+
+
+if __name__ == "__main__":
+    unittest.main()
