@@ -64,6 +64,17 @@ def is_laying(job, thing):
     return is_part(job, thing) and all(place is not None for place in thing)
 
 
+def free_works(part):
+    """List the works of a part without a place, rising."""
+    return [work for work, place in enumerate(part) if place is None]
+
+
+def free_places(part):
+    """List the places of a part that no work has, rising."""
+    # A job has as many places as works.
+    return [place for place in range(len(part)) if place not in part]
+
+
 def fixed(job, part):
     """Tell the fixed cost of a part: that of its laid works alone."""
     flows, ways, costs = job

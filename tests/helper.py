@@ -1,5 +1,6 @@
-"""What the tests share: jobs, things of every kind, and costs written out pair by pair."""
+"""What the tests share: jobs, tables, things of every kind, and what the document says, written out."""
 
+import functools
 import itertools
 import random
 
@@ -86,6 +87,109 @@ def written_cost(job, part):
             if p is not None and q is not None:
                 total = total + flows[i][j] * ways[p][q]
     return total
+
+
+def free_works_of(part):
+    return [work for work, place in enumerate(part) if place is None]
+
+
+def free_places_of(part):
+    return sorted(set(range(len(part))) - set(part))
+
+
+def completing(part):
+    """All layings that complete the part."""
+    works = free_works_of(part)
+    for places in itertools.permutations(free_places_of(part)):
+        laying = list(part)
+        for work, place in zip(works, places):
+            laying[work] = place
+        yield tuple(laying)
+
+
+@functools.lru_cache(maxsize=100000)
+def gone_through_product(one, other):
+    """The least sum of products of two tuples, all ways gone through: the first one with each of the other."""
+    if not one:
+        return 0
+    sums = []
+    for at, number in enumerate(other):
+        sums.append(one[0] * number + gone_through_product(one[1:], other[:at] + other[at + 1:]))
+    return min(sums)
+
+
+def gone_through_sum(table):
+    """The least sum of a pairing, all pairings gone through."""
+    sums = []
+    for columns in itertools.permutations(range(len(table))):
+        sums.append(sum(map(tuple.__getitem__, table, columns)))
+    return min(sums)
+
+
+def said_table(job, part):
+    """The bound table, by the words of the document."""
+    flows, ways, costs = job
+    works, places = free_works_of(part), free_places_of(part)
+    rows = []
+    for i in works:
+        row = []
+        for p in places:
+            number = costs[i][p]
+            for j, q in enumerate(part):
+                if q is not None:
+                    number = number + flows[i][j] * ways[p][q]
+                    number = number + flows[j][i] * ways[q][p]
+            sent = tuple(sorted(flows[i][j] for j in works if j != i))
+            gone = tuple(sorted(ways[p][q] for q in places if q != p))
+            row.append(number + gone_through_product(sent, gone))
+        rows.append(tuple(row))
+    return tuple(rows)
+
+
+def said_prices(table, left, right):
+    """Whether two lists are prices of the table, by the words of the document."""
+    size = len(table)
+    if len(left) != size or len(right) != size:
+        return False
+    return not any(left[i] + right[p] > table[i][p] for i in range(size) for p in range(size))
+
+
+def some_parts(size, seed, many=3):
+    """Parts in which none, some and all works are laid."""
+    source = random.Random(seed)
+    parts = [(None,) * size]
+    for laying in some_layings(size, seed, many):
+        parts.append(laying)
+        for time in range(2):
+            laid = source.sample(range(size), source.randint(0, size))
+            parts.append(tuple(place if work in laid else None for work, place in enumerate(laying)))
+    return parts
+
+
+def sample_tables(size):
+    """Tables of so many rows: ties, numbers below 0 and at both bounds, sums of two lists."""
+    source = random.Random(size)
+    most = 10 ** 12
+    one = [source.randint(-most // 2, most // 2) for time in range(size)]
+    other = [source.randint(-most // 2, most // 2) for time in range(size)]
+    return [
+        square(size, lambda i, p: 0),
+        square(size, lambda i, p: most),
+        square(size, lambda i, p: -most),
+        square(size, lambda i, p: source.choice((-most, most))),
+        square(size, lambda i, p: most if i == p else -most),
+        square(size, lambda i, p: -most if i == p else most),
+        square(size, lambda i, p: source.randint(-most, most)),
+        square(size, lambda i, p: source.randint(-9, -1)),
+        square(size, lambda i, p: source.randint(0, 1)),
+        square(size, lambda i, p: source.randint(-1, 2)),
+        square(size, lambda i, p: one[i] + other[p]),
+        square(size, lambda i, p: one[i] + other[p] + (i == p)),
+        # A greedy choice row by row, or column by column, goes wrong here.
+        square(size, lambda i, p: (i + 1) * (p + 1)),
+        square(size, lambda i, p: -(i + 1) * (p + 1)),
+        square(size, lambda i, p: (i - p) ** 3),
+    ]
 
 
 def put(thing, path, new):

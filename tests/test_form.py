@@ -27,6 +27,9 @@ FUNCTIONS = {
         "exchanged(laying, one, other)", "saved(job, laying, one, other)", "is_still(job, laying)",
         "settled(job, laying)", "is_settling(job, laying, steps)",
     ],
+    "pairings.py": ["pairing(table)", "are_prices(table, number, left, right)"],
+    "bounds.py": ["least_product(one, other)", "bound_table(job, part)", "bound(job, part)"],
+    "least.py": ["least(job)", "shows(job, number, tree)"],
 }
 
 
@@ -100,6 +103,15 @@ class Form(unittest.TestCase):
             for bound in bound_names(tree):
                 self.assertFalse(hasattr(builtins, bound), f"{name} {bound}")
                 self.assertFalse(bound.startswith("_"), f"{name} {bound}")
+
+    def test_no_local_name_hides_an_import_or_a_class(self):
+        for name, tree in trees():
+            heads = [node for node in tree.body if isinstance(node, (ast.ImportFrom, ast.ClassDef))]
+            told = [bound for node in heads for bound in bound_names(node)]
+            self.assertEqual(len(set(told)), len(told), name)
+            for node in ast.walk(tree):
+                if isinstance(node, (ast.FunctionDef, ast.Lambda)):
+                    self.assertEqual([bound for bound in bound_names(node) if bound in told], [], name)
 
     def test_only_the_allowed_builtins_are_used(self):
         for name, tree in trees():
