@@ -75,6 +75,11 @@ def free_places(part):
     return [place for place in range(len(part)) if place not in part]
 
 
+def laid_on(part, work, place):
+    """Tell the part in which one more work is laid."""
+    return part[:work] + (place,) + part[work + 1:]
+
+
 def fixed(job, part):
     """Tell the fixed cost of a part: that of its laid works alone."""
     flows, ways, costs = job

@@ -2,7 +2,7 @@
 
 from spotlay.bounds import bound_table
 from spotlay.errors import TooMany
-from spotlay.jobs import cost, fixed, free_places, free_works
+from spotlay.jobs import cost, fixed, free_places, free_works, laid_on
 from spotlay.pairings import are_prices, pairing
 
 MOST_SEARCHED = 6
@@ -14,11 +14,6 @@ def all_layings(many):
     for place in range(many):
         layings = [laying[:at] + (place,) + laying[at:] for laying in layings for at in range(place + 1)]
     return layings
-
-
-def laid_on(part, work, place):
-    """Tell the part in which one more work is laid."""
-    return part[:work] + (place,) + part[work + 1:]
 
 
 def grown(job, part, number):

@@ -4,6 +4,8 @@ import functools
 import itertools
 import random
 
+from spotlay.errors import LayError
+
 FAR = 10 ** 60 - 1  # sixty figures
 
 
@@ -36,6 +38,15 @@ def mixed_job(size, seed, flow=999, way=999, charge=10 ** 6):
         square(size, lambda p, q: 0 if p == q else source.randint(0, way)),
         square(size, lambda i, p: source.randint(0, charge)),
     )
+
+
+def mirrored(rows):
+    return square(len(rows), lambda i, j: rows[min(i, j)][max(i, j)])
+
+
+def mirrored_job(size, seed, **bounds):
+    flows, ways, costs = mixed_job(size, seed, **bounds)
+    return mirrored(flows), mirrored(ways), costs
 
 
 def charged_job(costs):
@@ -87,6 +98,15 @@ def written_cost(job, part):
             if p is not None and q is not None:
                 total = total + flows[i][j] * ways[p][q]
     return total
+
+
+def gone_through_least(job):
+    """The least cost, all layings gone through."""
+    return min(written_cost(job, laying) for laying in itertools.permutations(range(len(job[0]))))
+
+
+def all_free(job):
+    return (None,) * len(job[0])
 
 
 def free_works_of(part):
@@ -206,6 +226,33 @@ def found(thing, path):
     return thing
 
 
+def some_of(things, source, many):
+    things = list(things)
+    return things if len(things) <= many else source.sample(things, many)
+
+
+def spoiled_lists(xs, others):
+    """Lists near to this one: one left out, told twice, one more, two exchanged, none."""
+    for at in range(len(xs)):
+        yield xs[:at] + xs[at + 1:]
+        yield xs[:at] + [xs[at]] + xs[at:]
+    for one, other in itertools.combinations(range(len(xs)), 2):
+        turned = list(xs)
+        turned[one], turned[other] = xs[other], xs[one]
+        yield turned
+    for other in others:
+        yield xs + [other]
+        yield [other] + xs
+    yield xs[::-1]
+    yield []
+
+
+def spoiled_prices(xs):
+    for at, change in itertools.product(range(len(xs)), (1, -1, FAR, -FAR)):
+        yield xs[:at] + [xs[at] + change] + xs[at + 1:]
+    yield from spoiled_lists(xs, [0, 1, -1, -FAR])
+
+
 def nested(wrap, inmost, depth):
     thing = inmost
     for level in range(depth):
@@ -244,3 +291,44 @@ def assert_number(case, expected, function, *given):
         case.assertIs(type(answer), int)
         case.assertEqual(answer, expected, f"{function.__name__} of {ahead[:500]}")
         case.assertEqual(repr(given), ahead)
+
+
+def assert_refused(case, refusal, function, *given):
+    """It is refused with this very class, and all that was handed in is as it was."""
+    ahead = repr(given)
+    with case.assertRaises(LayError, msg=f"{function.__name__} of {ahead[:500]}") as caught:
+        function(*given)
+    case.assertIs(type(caught.exception), refusal, f"{function.__name__} of {ahead[:500]}")
+    case.assertEqual(repr(given), ahead)
+
+
+def assert_laying(case, job, laying, number):
+    """It is a laying of the job, of the told kinds, and has this cost."""
+    size = len(job[0])
+    case.assertIs(type(laying), tuple)
+    case.assertEqual([type(place) for place in laying], [int] * size)
+    case.assertEqual(sorted(laying), list(range(size)))
+    case.assertIs(type(number), int)
+    case.assertEqual(written_cost(job, laying), number)
+
+
+def parted_least(case, function, job):
+    """What is told as (cost, laying, paper), the laying having the cost and the job being as it was."""
+    ahead = repr(job)
+    told = function(job)
+    case.assertEqual(repr(job), ahead)
+    case.assertIs(type(told), tuple)
+    case.assertEqual(len(told), 3)
+    number, laying, paper = told
+    assert_laying(case, job, laying, number)
+    return told
+
+
+def assert_shown(case, function, job, most, paper, answers=None, others=(0, 1, -1)):
+    """The paper shows just the numbers up to the greatest one that it shows, or none where that is None."""
+    near = list(others) if most is None else [most - 1, most, most + 1]
+    for number in near + [-FAR, FAR]:
+        due = most is not None and number <= most
+        assert_told(case, due, function, job, number, paper)
+        if answers is not None:
+            answers.add((len(job[0]), due))

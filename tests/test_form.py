@@ -30,6 +30,9 @@ FUNCTIONS = {
     "pairings.py": ["pairing(table)", "are_prices(table, number, left, right)"],
     "bounds.py": ["least_product(one, other)", "bound_table(job, part)", "bound(job, part)"],
     "least.py": ["least(job)", "shows(job, number, tree)"],
+    "lines.py": ["line(job)", "line_least(job)", "are_floors(job, number, floors)"],
+    "hubs.py": ["hub(job)", "hub_least(job)", "hub_shows(job, number, papers)"],
+    "alike.py": ["alike_works(job)", "alike_places(job)", "first_alike(job, laying)", "how_many_unlike(job)"],
 }
 
 

@@ -5,18 +5,15 @@ import time
 import unittest
 
 from helper import (
-    FAR, assert_told, charged_job, empty_job, even_job, free_places_of, free_works_of, greatest_job, mixed_job,
-    said_prices, said_table, sample_jobs, square, written_cost,
+    FAR, all_free, assert_laying, assert_shown, assert_told, charged_job, empty_job, even_job, free_places_of,
+    free_works_of, gone_through_least, greatest_job, mirrored_job, mixed_job, said_prices, said_table, sample_jobs,
+    some_of, spoiled_lists, spoiled_prices, square, written_cost,
 )
 from spotlay.errors import TooMany
 from spotlay.least import least, shows
 from spotlay.pairings import pairing
 
 kept_table = functools.lru_cache(maxsize=None)(said_table)
-
-
-def all_free(job):
-    return (None,) * len(job[0])
 
 
 def laid(part, work, place):
@@ -35,15 +32,6 @@ def most_shown(job, part, tree):
         return None
     numbers = [most_shown(job, laid(part, one, place), branch) for place, branch in zip(places, other)]
     return None if None in numbers else min(numbers)
-
-
-def mirrored(rows):
-    return square(len(rows), lambda i, j: rows[min(i, j)][max(i, j)])
-
-
-def mirrored_job(size, seed, **bounds):
-    flows, ways, costs = mixed_job(size, seed, **bounds)
-    return mirrored(flows), mirrored(ways), costs
 
 
 def split_job(size):
@@ -85,10 +73,6 @@ def jobs_of(size):
     return jobs
 
 
-def gone_through_least(job):
-    return min(written_cost(job, laying) for laying in itertools.permutations(range(len(job[0]))))
-
-
 def lists_of(tree):
     """All lists of a tree."""
     word, one, other = tree
@@ -115,16 +99,11 @@ class Least(unittest.TestCase):
                 self.assert_tree(branch)
 
     def assert_least(self, job, told, number):
-        size = len(job[0])
         self.assertIs(type(told), tuple)
         self.assertEqual(len(told), 3)
         total, laying, tree = told
-        self.assertIs(type(total), int)
         self.assertEqual(total, number, job)
-        self.assertIs(type(laying), tuple)
-        self.assertEqual([type(place) for place in laying], [int] * size)
-        self.assertEqual(sorted(laying), list(range(size)))
-        self.assertEqual(written_cost(job, laying), number)
+        assert_laying(self, job, laying, total)
         self.assert_tree(tree)
         # That it shows no more than the least cost is a check of this check.
         self.assertEqual(most_shown(job, all_free(job), tree), number)
@@ -246,28 +225,6 @@ def whole_tree(job):
     return tree
 
 
-def spoiled_lists(xs, others):
-    """Lists near to this one: one left out, told twice, one more, two exchanged, none."""
-    for at in range(len(xs)):
-        yield xs[:at] + xs[at + 1:]
-        yield xs[:at] + [xs[at]] + xs[at:]
-    for one, other in itertools.combinations(range(len(xs)), 2):
-        turned = list(xs)
-        turned[one], turned[other] = xs[other], xs[one]
-        yield turned
-    for other in others:
-        yield xs + [other]
-        yield [other] + xs
-    yield xs[::-1]
-    yield []
-
-
-def spoiled_prices(xs):
-    for at, change in itertools.product(range(len(xs)), (1, -1, FAR, -FAR)):
-        yield xs[:at] + [xs[at] + change] + xs[at + 1:]
-    yield from spoiled_lists(xs, [0, 1, -1, -FAR])
-
-
 def spoiled_tops(tree, size):
     """Trees near to this one, in what it says at its top."""
     word, one, other = tree
@@ -297,11 +254,6 @@ def spoiled(tree, size):
                 yield (word, one, other[:at] + [turned] + other[at + 1:])
 
 
-def some_of(things, source, many):
-    things = list(things)
-    return things if len(things) <= many else source.sample(things, many)
-
-
 @functools.lru_cache(maxsize=None)
 def shown_at_once(job):
     """What the best prices show at once."""
@@ -312,12 +264,7 @@ class Shows(unittest.TestCase):
     def assert_words(self, job, tree, answers=None):
         """Told as the words say, of the greatest number that the tree shows, and of others."""
         most = most_shown(job, all_free(job), tree)
-        near = [0, 1, -1, shown_at_once(job)] if most is None else [most - 1, most, most + 1]
-        for number in near + [-FAR, FAR]:
-            due = most is not None and number <= most
-            assert_told(self, due, shows, job, number, tree)
-            if answers is not None:
-                answers.add((len(job[0]), due))
+        assert_shown(self, shows, job, most, tree, answers, (0, 1, -1, shown_at_once(job)))
 
     def test_by_hand(self):
         job = (((0, 3), (5, 0)), ((0, 7), (11, 0)), ((1, 2), (4, 8)))
