@@ -127,6 +127,57 @@ def completing(part):
         yield tuple(laying)
 
 
+class Kept:
+    """A job, a laying and the deeds as the document says, written out: each deed is kept with what undoes it."""
+
+    def __init__(self, job, laying):
+        self.squares = [[list(row) for row in rows] for rows in job]
+        self.places = list(laying)
+        self.undone_by = []
+
+    def job(self):
+        return tuple(tuple(tuple(row) for row in rows) for rows in self.squares)
+
+    def laying(self):
+        return tuple(self.places)
+
+    def cost(self):
+        return written_cost(self.job(), self.laying())
+
+    def put(self, at, one, other, number):
+        self.undone_by.append(("put", at, one, other, self.squares[at][one][other]))
+        self.squares[at][one][other] = number
+
+    def swap(self, one, other):
+        self.undone_by.append(("swap", one, other))
+        self.exchange(one, other)
+
+    def exchange(self, one, other):
+        self.places[one], self.places[other] = self.places[other], self.places[one]
+
+    def better(self):
+        ahead = self.cost()
+        gains = []
+        for one, other in itertools.combinations(range(len(self.places)), 2):
+            self.exchange(one, other)
+            gains.append((ahead - self.cost(), one, other))
+            self.exchange(one, other)
+        most = max([gain for gain, one, other in gains], default=0)
+        if most <= 0:
+            return None
+        one, other = [(one, other) for gain, one, other in gains if gain == most][0]
+        self.swap(one, other)
+        return one, other, most
+
+    def back(self):
+        word, *what = self.undone_by.pop()
+        if word == "swap":
+            self.exchange(*what)
+        else:
+            at, one, other, number = what
+            self.squares[at][one][other] = number
+
+
 @functools.lru_cache(maxsize=100000)
 def gone_through_product(one, other):
     """The least sum of products of two tuples, all ways gone through: the first one with each of the other."""
@@ -273,6 +324,16 @@ def anything():
         things.append(nested(lambda thing: ([{"a": thing}],), inmost, 2))
         things.append(nested(lambda thing: (thing, thing, thing), inmost, 5))
     return things
+
+
+def wrong_works(size):
+    """Things that are no work and no place of a job of this size."""
+    return [-1, -size, size, size + 1, FAR, -FAR, True, False, None, "0", "", (0,), (), [0], [], {0: 0}, {}]
+
+
+def wrong_numbers(most):
+    """Things that are no number from 0 to the told one."""
+    return [-1, -most, most + 1, FAR, -FAR, True, False, None, "5", "", (5,), (), [5], [], {5: 5}, {}]
 
 
 def assert_told(case, expected, function, *given):

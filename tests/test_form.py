@@ -33,6 +33,16 @@ FUNCTIONS = {
     "lines.py": ["line(job)", "line_least(job)", "are_floors(job, number, floors)"],
     "hubs.py": ["hub(job)", "hub_least(job)", "hub_shows(job, number, papers)"],
     "alike.py": ["alike_works(job)", "alike_places(job)", "first_alike(job, laying)", "how_many_unlike(job)"],
+    "means.py": ["mean(job, part)", "by_means(job)"],
+    "texts.py": ["show_job(job)", "read_job(text)"],
+}
+METHODS = {
+    ("keeper.py", "Keeper"): [
+        "__init__(self, job, laying)", "flow(self, one, other, number)", "way(self, one, other, number)",
+        "charge(self, work, place, number)", "swap(self, one, other)", "back(self)", "better(self)", "job(self)",
+        "laying(self)", "cost(self)",
+    ],
+    ("desk.py", "Desk"): ["__init__(self)", "say(self, row)"],
 }
 
 
@@ -72,6 +82,52 @@ class Form(unittest.TestCase):
             for one in wanted:
                 self.assertIn(one, heads)
 
+    def test_the_methods_of_the_interface_stand_in_their_classes(self):
+        found = dict(trees())
+        for (name, told), wanted in METHODS.items():
+            classes = [node for node in found[name].body if isinstance(node, ast.ClassDef) and node.name == told]
+            self.assertEqual(len(classes), 1)
+            heads = [head(node) for node in classes[0].body if isinstance(node, ast.FunctionDef)]
+            for one in wanted:
+                self.assertIn(one, heads)
+
+    def test_no_name_is_a_method_and_an_attribute(self):
+        methods, attributes = set(), set()
+        for name, tree in trees():
+            for node in ast.walk(tree):
+                if isinstance(node, ast.ClassDef):
+                    methods |= {one.name for one in node.body if isinstance(one, ast.FunctionDef)}
+                elif isinstance(node, ast.Attribute) and isinstance(node.ctx, ast.Store):
+                    attributes.add(node.attr)
+        self.assertTrue(methods)
+        self.assertEqual(methods & attributes, set())
+        for one in methods | attributes:
+            for value in ("", 0, [], {}, (), set(), b""):
+                self.assertFalse(hasattr(value, one) and not one.startswith("__"), one)
+
+    def test_no_two_files_import_from_each_other(self):
+        needs = {}
+        for name, tree in trees():
+            modules = [node.module for node in tree.body if isinstance(node, ast.ImportFrom)]
+            needs[name] = {module.split(".")[1] + ".py" for module in modules}
+        while needs:
+            free = [name for name in needs if not needs[name] & set(needs)]
+            self.assertTrue(free, needs)
+            for name in free:
+                del needs[name]
+
+    def test_a_name_is_imported_from_the_file_that_defines_it(self):
+        found = dict(trees())
+        for name, tree in found.items():
+            for node in tree.body:
+                if isinstance(node, ast.ImportFrom):
+                    other = found[node.module.split(".")[1] + ".py"]
+                    defined = {one.name for one in other.body if isinstance(one, (ast.FunctionDef, ast.ClassDef))}
+                    for one in other.body:
+                        if isinstance(one, ast.Assign):
+                            defined.add(one.targets[0].id)
+                    self.assertEqual({alias.name for alias in node.names} - defined, set(), name)
+
     def test_signs_and_sizes(self):
         for path in FILES:
             text = path.read_text(encoding="utf-8")
@@ -109,8 +165,10 @@ class Form(unittest.TestCase):
 
     def test_no_local_name_hides_an_import_or_a_class(self):
         for name, tree in trees():
-            heads = [node for node in tree.body if isinstance(node, (ast.ImportFrom, ast.ClassDef))]
-            told = [bound for node in heads for bound in bound_names(node)]
+            told = [node.name for node in tree.body if isinstance(node, ast.ClassDef)]
+            for node in tree.body:
+                if isinstance(node, ast.ImportFrom):
+                    told += bound_names(node)
             self.assertEqual(len(set(told)), len(told), name)
             for node in ast.walk(tree):
                 if isinstance(node, (ast.FunctionDef, ast.Lambda)):
